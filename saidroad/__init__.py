@@ -1,0 +1,1 @@
+"""Saidroad: a rumour on a road, and those who carry it."""
