@@ -2,10 +2,10 @@
 
 A line is a (place, pace), as a walker is one: who or what goes along it is at
 place and t times pace together at time t. Each end of what is known goes along
-a line at any time: it stands at the start, or goes as the walker who drives it.
+a line at any time: it stands where it began, or goes as the walker who drives it.
 """
 
-from saidroad.ratios import ZERO, is_below, least, lowest
+from saidroad.ratios import ZERO, is_below, least, lowest, most
 
 
 def point_of(line, time):
@@ -21,9 +21,10 @@ def meeting(one, other):
 class End:
     """One end of what is known: the way that leads out of it, and who drove it from when on."""
 
-    def __init__(self, start, way):
+    def __init__(self, begin, way):
+        self.begin = begin
         self.way = way
-        self.line = (start, 0)
+        self.line = (begin, 0)
         self.driver = None
         self.drives = []
 
@@ -43,14 +44,17 @@ class End:
 
 
 class Course:
-    """The course of a rumour from a start: `knows` has, for each walker, (time, by whom) or None."""
+    """The course of a rumour that is known between two places at time 0.
 
-    def __init__(self, walkers, start):
-        self.walkers = walkers
-        self.start = start
-        self.left = End(start, -1)
-        self.right = End(start, 1)
+    `knows` has, for each walker, (time, by whom) or None.
+    """
+
+    def __init__(self, walkers, left, right):
+        self.lines = walkers
+        self.left = End(left, -1)
+        self.right = End(right, 1)
         self.knows = [None for _ in walkers]
+        self.tell_those_inside()
         time = ZERO
         while time is not None:
             self.tell(time)
@@ -58,37 +62,47 @@ class Course:
             self.drive(self.right, time)
             time = self.next_time()
 
+    def is_begun(self, place):
+        """Whether the place is known at time 0."""
+        return self.left.begin <= place <= self.right.begin
+
+    def tell_those_inside(self):
+        """Let those know who are between the ends at time 0."""
+        for number, walker in enumerate(self.lines):
+            if self.is_begun(walker[0]):
+                self.knows[number] = (ZERO, None)
+
     def entry(self, walker):
         """The end at which a walker who doesn't know could come in."""
         # Who doesn't know was outside at each time till now, so still is on the side where it began.
-        # At the start it's in from time 0 on, when both ends are one.
-        if walker[0] < self.start:
+        if walker[0] < self.left.begin:
             return self.left
         return self.right
 
     def tell(self, time):
         """Let those know who come in at this time."""
-        for number, walker in enumerate(self.walkers):
-            end = self.entry(walker)
-            if self.knows[number] is None and end.is_level(walker, time):
-                self.knows[number] = (time, end.driver)
+        for number, walker in enumerate(self.lines):
+            if self.knows[number] is None:
+                end = self.entry(walker)
+                if end.is_level(walker, time):
+                    self.knows[number] = (time, end.driver)
 
     def drive(self, end, time):
         """Let the quickest of those who are level with the end drive it, if it's quicker than the end."""
         # All who are level with an end know by now: they have been told first.
         quickest = None
         lead = 0
-        for number, walker in enumerate(self.walkers):
+        for number, walker in enumerate(self.lines):
             if end.lead(walker) < lead and end.is_level(walker, time):
                 quickest = number
                 lead = end.lead(walker)
         if quickest is not None:
-            end.take(time, quickest, self.walkers[quickest])
+            end.take(time, quickest, self.lines[quickest])
 
     def next_time(self):
         """The next time at which a walker comes in, or catches up with an end; None, if there is none."""
         times = []
-        for number, walker in enumerate(self.walkers):
+        for number, walker in enumerate(self.lines):
             if self.knows[number] is None:
                 end = self.entry(walker)
                 if end.lead(walker) > 0:
@@ -99,25 +113,41 @@ class Course:
                         times.append(meeting(walker, end.line))
         return least(times)
 
+    def is_told(self, number, time):
+        """Whether the walker of this number knows at a time."""
+        knows = self.knows[number]
+        return knows is not None and not is_below(time, knows[0])
+
     def ends(self, time):
         """The left and the right end of what is known at a time, each a fraction."""
-        tops = [self.start * time[1]]
-        for number, walker in enumerate(self.walkers):
-            knows = self.knows[number]
-            if knows is not None and not is_below(time, knows[0]):
-                tops.append(walker[0] * time[1] + walker[1] * time[0])
-        return (lowest(min(tops), time[1]), lowest(max(tops), time[1]))
+        points = [(self.left.begin, 1), (self.right.begin, 1)]
+        for number, walker in enumerate(self.lines):
+            if self.is_told(number, time):
+                points.append(point_of(walker, time))
+        return (least(points), most(points))
 
     def known(self, place):
         """The first time at which a place knows, or None."""
-        if place == self.start:
+        if self.is_begun(place):
             return ZERO
         times = []
-        for number, walker in enumerate(self.walkers):
-            knows = self.knows[number]
-            # Elsewhere than at the start, one who stands is told by one who goes, and so is its place.
-            if knows is not None and walker[1] != 0:
+        for number, walker in enumerate(self.lines):
+            # Where one stands, away from where all began, one who goes comes as soon as the place knows.
+            if walker[1] != 0:
                 time = meeting(walker, (place, 0))
-                if not is_below(time, knows[0]):
+                if self.is_told(number, time):
                     times.append(time)
         return least(times)
+
+    def bringer(self, place, time):
+        """The first walker who is at the place at the first time at which it knows; None, if none is."""
+        # Who is there then knows, too.
+        for number, walker in enumerate(self.lines):
+            if point_of(walker, time) == (place, 1):
+                return number
+        return None
+
+
+def course_from(walkers, start):
+    """The course of a rumour that is known at the start alone at time 0."""
+    return Course(walkers, start, start)

@@ -25,3 +25,12 @@ def least(fractions):
         if best is None or is_below(fraction, best):
             best = fraction
     return best
+
+
+def most(fractions):
+    """The greatest of some fractions; None, if there are none."""
+    best = None
+    for fraction in fractions:
+        if best is None or is_below(best, fraction):
+            best = fraction
+    return best

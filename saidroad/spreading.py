@@ -1,7 +1,7 @@
 """What is known, who knows it, from whom, and who drives the ends."""
 
 from saidroad.checks import FARTHEST, check_place, check_point, check_time, check_walkers
-from saidroad.course import Course, point_of
+from saidroad.course import course_from, point_of
 from saidroad.ratios import is_below, lowest
 
 
@@ -9,7 +9,7 @@ def course_of(walkers, start):
     """The course of a rumour, of walkers and a start as they are handed in."""
     check_walkers(walkers)
     check_place(start)
-    return Course(walkers, start)
+    return course_from(walkers, start)
 
 
 def stretch(walkers, start, time):
@@ -67,6 +67,6 @@ def starts(walkers, time, left, right):
     for start in range(-FARTHEST, FARTHEST + 1):
         # No stretch leaves its start, so the others need not be tried.
         if not is_below((start, 1), left) and not is_below(right, (start, 1)):
-            if Course(walkers, start).ends(time) == ends:
+            if course_from(walkers, start).ends(time) == ends:
                 found.append(start)
     return found

@@ -5,8 +5,9 @@ import inspect
 import unittest
 from math import gcd
 
-from saidroad import spreading
+from saidroad import asking, notes, spreading
 from saidroad.errors import RoadError
+from saidroad.road import Road
 
 WALKERS = ((0, 2), (-5, 3), (4, -1), (10, 1), (6, 0), (50, 9), (-7, -3), (0, 2))
 QUESTIONS = [
@@ -22,6 +23,18 @@ QUESTIONS = [
     ("tellers", ((), 0)),
     ("drivers", ((), 0)),
     ("starts", ((), (1, 1), (6, 2), (3, 1))),
+    ("spare", (WALKERS, 0)),
+    ("lean", (WALKERS, 0)),
+    ("paces", (WALKERS, 0, 2, -9, (15, 2))),
+    ("chain", (WALKERS, 0, -40)),
+    ("chain", (WALKERS, 0, 0)),
+    ("first", (WALKERS, 0, 4, 2)),
+    ("judged", (WALKERS, 0, 6, [(0, (0, 3), (4, 2)), (0, (4, 2), (9, 3))])),
+    ("judged", (WALKERS, 0, 0, [])),
+    ("spare", ((), 0)),
+    ("lean", ((), 0)),
+    ("written", (WALKERS, -9)),
+    ("read", ("said -9\nwalker 3 4",)),
 ]
 PARAMETERS = {
     "stretch": ["walkers", "start", "time"],
@@ -30,15 +43,49 @@ PARAMETERS = {
     "tellers": ["walkers", "start"],
     "drivers": ["walkers", "start"],
     "starts": ["walkers", "time", "left", "right"],
+    "spare": ["walkers", "start"],
+    "lean": ["walkers", "start"],
+    "paces": ["walkers", "start", "number", "place", "time"],
+    "chain": ["walkers", "start", "place"],
+    "first": ["walkers", "one", "other", "place"],
+    "judged": ["walkers", "start", "place", "told"],
+    "written": ["walkers", "start"],
+    "read": ["text"],
 }
+MODULES = {name: asking for name in ("spare", "lean", "paces", "chain", "first", "judged")}
+MODULES.update({"written": notes, "read": notes})
+METHODS = {
+    "do": ["self", "deed"],
+    "back": ["self"],
+    "batch": ["self", "deeds", "keep"],
+    "knowing": ["self"],
+    "deeds": ["self"],
+    "walkers": ["self"],
+    "stands": ["self"],
+}
+DEEDS = [
+    ("come", 0, 2), ("come", -5, 3), ("come", 7, -1), ("say", 0), ("wait", 4), ("turn", 0, -3), ("leave", 1), ("wait", 9),
+]
+
+
+def question_of(name):
+    return getattr(MODULES.get(name, spreading), name)
 
 
 def ask(name, handed):
-    return getattr(spreading, name)(*handed)
+    return question_of(name)(*handed)
+
+
+def seen(road):
+    """All that a road tells, by itself."""
+    return [copy.deepcopy(told) for told in (road.walkers(), road.knowing(), road.stands(), road.deeds())]
 
 
 def spoil(told):
-    """Change each list in what was told."""
+    """Change each list and each dict in what was told."""
+    if isinstance(told, dict):
+        told.clear()
+        told["spoilt"] = None
     if isinstance(told, (list, tuple)):
         for part in told:
             spoil(part)
@@ -108,6 +155,65 @@ class Told(unittest.TestCase):
         for start in told:
             self.is_number(start)
 
+    def test_lists_of_numbers(self):
+        for name, handed in QUESTIONS:
+            if name in ("spare", "lean", "paces"):
+                told = ask(name, handed)
+                self.assertIs(type(told), list)
+                for number in told:
+                    self.is_number(number)
+        self.assertTrue(spreading.known(WALKERS, 0, -9) and asking.paces(WALKERS, 0, 2, -9, (15, 2)))
+
+    def test_first_tells_a_number(self):
+        told = [asking.first(WALKERS, 0, 10, place) for place in (0, 10)]
+        self.assertEqual(told, [0, 1])
+        for number in told:
+            self.is_number(number)
+
+    def test_judged_tells_a_fraction(self):
+        for end in ((6, 4), (3, 2), (4, 1), (8, 2)):
+            told = asking.judged(((0, 2),), 0, 2 * end[0] // end[1], [(0, (0, 9), end)])
+            self.is_fraction(told)
+        self.is_fraction(asking.judged((), 5, 5, []))
+
+    def test_chain_tells_a_list_of_legs(self):
+        for place in range(-99, 100):
+            told = asking.chain(WALKERS, 0, place)
+            self.assertIs(type(told), list)
+            self.assertEqual(told == [], place == 0)
+            for leg in told:
+                self.assertIs(type(leg), tuple)
+                number, begin, end = leg
+                self.is_number(number)
+                self.is_fraction(begin)
+                self.is_fraction(end)
+
+    def test_a_road_tells_numbers_and_times(self):
+        road = Road()
+        for deed in DEEDS:
+            known = road.do(deed)
+            time, told = road.stands()
+            self.assertEqual(told, known)
+            self.is_fraction(time)
+            if known is not None:
+                self.assertIs(type(known), tuple)
+                self.assertEqual(len(known), 2)
+                self.is_number(known[0])
+                self.is_number(known[1])
+            self.assertIs(type(road.knowing()), list)
+            self.assertIs(type(road.deeds()), list)
+            self.assertIs(type(road.walkers()), dict)
+            for number in road.knowing():
+                self.is_number(number)
+            for number, walker in road.walkers().items():
+                self.is_number(number)
+                self.assertIs(type(walker), tuple)
+                place, pace = walker
+                self.is_number(place)
+                self.is_number(pace)
+        self.assertIs(type(road.stands()), tuple)
+        self.assertIs(type(Road().batch(DEEDS)), list)
+
 
 class AskedAgain(unittest.TestCase):
     def test_the_same_is_told(self):
@@ -148,18 +254,84 @@ class AskedAgain(unittest.TestCase):
         self.assertEqual([ask(*question) for question in QUESTIONS], before)
 
 
+class RoadAskedAgain(unittest.TestCase):
+    def test_the_same_is_told(self):
+        road = Road()
+        for deed in DEEDS:
+            road.do(deed)
+            self.assertEqual(seen(road), seen(road))
+
+    def test_what_is_told_may_be_changed(self):
+        road, other = Road(), Road()
+        for deed in DEEDS:
+            other.do(deed)
+            spoil(road.do(deed))
+            for told in (road.walkers(), road.knowing(), road.stands(), road.deeds()):
+                spoil(told)
+            self.assertEqual(seen(road), seen(other))
+        while other.back():
+            road.back()
+            self.assertEqual(seen(road), seen(other))
+
+    def test_what_a_batch_tells_may_be_changed(self):
+        road = Road()
+        spoil(road.batch(DEEDS))
+        other = Road()
+        other.batch(DEEDS)
+        self.assertEqual(seen(road), seen(other))
+
+    def test_what_is_handed_in_may_be_changed_later(self):
+        road, deeds = Road(), list(DEEDS)
+        road.batch(deeds)
+        self.assertEqual(deeds, DEEDS)
+        before = seen(road)
+        deeds.clear()
+        self.assertEqual(seen(road), before)
+        self.assertEqual(road.deeds(), DEEDS)
+
+    def test_what_is_refused_changes_nothing(self):
+        road = Road()
+        road.batch(DEEDS)
+        before = seen(road)
+        for deeds in (None, [("wait", 1), ("wait",)], [("wait", 1), ["wait", 1]]):
+            self.assertRaises(RoadError, road.batch, deeds)
+        for deed in (("say", 3), ("come", 1, 10), ("leave", 1), ("turn", True, 1), ["wait", 1], None):
+            self.assertRaises(RoadError, road.do, deed)
+            with self.assertRaises(RoadError):
+                road.batch([("wait", 1), ("come", 1, 1), deed], keep=False)
+        self.assertEqual(seen(road), before)
+        road.do(("come", 4, 4))
+        self.assertEqual(sorted(road.walkers()), [0, 2, 3])
+
+
 class Interface(unittest.TestCase):
     def test_each_function_is_defined_here_with_these_names(self):
         for name, parameters in PARAMETERS.items():
             with self.subTest(name):
-                function = getattr(spreading, name)
-                self.assertEqual(function.__module__, "saidroad.spreading")
+                function = question_of(name)
+                self.assertEqual(function.__module__, MODULES.get(name, spreading).__name__)
                 self.assertEqual(list(inspect.signature(function).parameters), parameters)
 
     def test_arguments_can_be_handed_in_by_name(self):
         for name, handed in QUESTIONS:
             named = dict(zip(PARAMETERS[name], handed))
-            self.assertEqual(getattr(spreading, name)(**named), ask(name, handed))
+            self.assertEqual(question_of(name)(**named), ask(name, handed))
+
+    def test_each_method_is_defined_in_the_class_itself(self):
+        self.assertEqual(Road.__module__, "saidroad.road")
+        self.assertEqual(list(inspect.signature(Road).parameters), [])
+        for name, parameters in METHODS.items():
+            with self.subTest(name):
+                self.assertIn(name, vars(Road))
+                self.assertEqual(list(inspect.signature(vars(Road)[name]).parameters), parameters)
+
+    def test_what_methods_are_handed_by_name(self):
+        road = Road()
+        self.assertIsNone(road.do(deed=("come", 1, 1)))
+        self.assertEqual(road.batch(deeds=[("say", 1)], keep=False), [(1, 1)])
+        keep = inspect.signature(Road.batch).parameters["keep"]
+        self.assertIs(keep.kind, inspect.Parameter.KEYWORD_ONLY)
+        self.assertIs(keep.default, True)
 
 
 if __name__ == "__main__":

@@ -17,6 +17,12 @@ BUILTINS = set(
     "len range enumerate zip min max sum abs sorted reversed int str bool list tuple dict set isinstance ord repr "
     "any all divmod map iter next super ValueError KeyError IndexError ZeroDivisionError TypeError".split()
 )
+METHODS = set(
+    "append clear copy count endswith extend find get index insert isalnum isalpha isdigit islower isspace isupper items "
+    "join keys ljust lower lstrip partition pop remove replace reverse rfind rjust rpartition rsplit rstrip setdefault "
+    "split splitlines startswith strip update upper values zfill bit_length isascii isdecimal removeprefix removesuffix "
+    "add discard __init__".split()
+)
 BARRED = (
     ast.Global, ast.AsyncFunctionDef, ast.Await, ast.AsyncFor, ast.AsyncWith, ast.Div, ast.TryStar, ast.AnnAssign,
 )
@@ -85,6 +91,46 @@ class Language(unittest.TestCase):
                 self.assertNotIn(node.arg, known, where)
             if isinstance(node, (ast.FunctionDef, ast.ClassDef)):
                 self.assertNotIn(node.name, known, where)
+
+    def test_methods_that_are_called(self):
+        own = {node.name for _, node in nodes() if isinstance(node, ast.FunctionDef)}
+        for where, node in nodes():
+            if isinstance(node, ast.Call) and isinstance(node.func, ast.Attribute):
+                self.assertIn(node.func.attr, own | METHODS, where)
+
+    def test_no_name_is_a_method_and_an_attribute(self):
+        methods, attributes = set(), set()
+        for _, node in nodes():
+            if isinstance(node, ast.ClassDef):
+                methods |= {row.name for row in node.body if isinstance(row, ast.FunctionDef)}
+            if isinstance(node, ast.Attribute) and isinstance(node.ctx, ast.Store):
+                attributes.add(node.attr)
+        self.assertEqual(methods & attributes, set())
+        self.assertEqual((methods | attributes) & (METHODS - {"__init__"}), set())
+
+    def test_no_local_name_is_an_import_or_a_function_of_its_file(self):
+        for name, text in sources():
+            tree = ast.parse(text)
+            taken = {alias.name for row in tree.body if isinstance(row, ast.ImportFrom) for alias in row.names}
+            taken |= {row.name for row in tree.body if isinstance(row, (ast.FunctionDef, ast.ClassDef))}
+            for node in ast.walk(tree):
+                if isinstance(node, ast.Name) and isinstance(node.ctx, ast.Store):
+                    self.assertNotIn(node.id, taken, f"{name}:{node.lineno}")
+                if isinstance(node, ast.arg):
+                    self.assertNotIn(node.arg, taken, f"{name}:{node.lineno}")
+                if isinstance(node, ast.MatchAs) and node.name:
+                    self.assertNotIn(node.name, taken, f"{name}:{node.lineno}")
+
+    def test_no_files_import_from_each_other(self):
+        ahead = {}
+        for name, text in sources():
+            rows = [node.module for node in ast.walk(ast.parse(text)) if isinstance(node, ast.ImportFrom)]
+            ahead["saidroad." + name[:-3]] = {module for module in rows if module.startswith("saidroad")}
+        done = set()
+        while len(done) < len(ahead):
+            ready = {name for name in ahead if name not in done and ahead[name] <= done}
+            self.assertTrue(ready, sorted(set(ahead) - done))
+            done |= ready
 
     def test_is_stands_beside_none_and_truths(self):
         for where, node in nodes():
